@@ -1,0 +1,1 @@
+"""An ordered store in blocks, with a log ahead."""
